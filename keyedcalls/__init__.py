@@ -1,0 +1,1 @@
+"""A server for remote calls whose clock the caller advances. It is called through keyedcalls.server.answers."""
