@@ -14,9 +14,7 @@ def arrive(server, ask):
     if status is not None:
         end_request(server, request, status)
         return request
-    shared = None
-    if ask.key != 0:
-        shared = shared_execution(server, ask.client, ask.key)
+    shared = shared_execution(server, ask.client, ask.key)
     if shared is None:
         admit(server, request, ask)
     else:

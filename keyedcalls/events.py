@@ -1,17 +1,20 @@
 """The events that come with the time: which one is next, and what it does."""
 
 from keyedcalls.codes import DEADLINE_EXCEEDED
-from keyedcalls.executions import fill_slots, leave, resume
+from keyedcalls.executions import end_grace, fill_slots, leave, resume
 from keyedcalls.state import RUNNING, in_state, open_requests
 
 WAIT_ENDS = 0
 DEADLINE_COMES = 1
+GRACE_ENDS = 2
 
 
 def upcoming_event(server):
     """The time, the kind and the number of the next event, None if there is none."""
     events = [(execution.wakes_at, WAIT_ENDS, execution.number) for execution in in_state(server, RUNNING)]
     events.extend([(request.deadline, DEADLINE_COMES, request.number) for request in open_requests(server)])
+    if server.grace_end is not None and not server.grace_over:
+        events.append((server.grace_end, GRACE_ENDS, 0))
     return min(events, default=None)
 
 
@@ -21,8 +24,10 @@ def happen(server, event):
     if kind == WAIT_ENDS:
         resume(server, server.executions[number])
         fill_slots(server)
-    else:
+    elif kind == DEADLINE_COMES:
         leave(server, server.requests[number], DEADLINE_EXCEEDED)
+    else:
+        end_grace(server)
 
 
 def advance_to(server, moment):

@@ -2,8 +2,8 @@
 
 from keyedcalls.codes import CANCELLED
 from keyedcalls.programs import execute
-from keyedcalls.state import DROPPED, Execution, FINISHED, QUEUED, RUNNING
-from keyedcalls.state import has_free_slot, in_state, waiting_requests
+from keyedcalls.state import DROPPED, Execution, FINISHED, NO_KEY, QUEUED, RUNNING
+from keyedcalls.state import has_free_slot, in_state, open_requests, waiting_requests
 
 SMALLEST_DEADLINE = 1
 GREATEST_NUMBER = 2
@@ -76,7 +76,22 @@ def leave(server, request, status):
 
 def abandon(server, execution):
     if execution.state == QUEUED:
-        execution.state = DROPPED
-        execution.finished_at = server.now
-    elif execution.key == 0:
+        drop(server, execution)
+    elif execution.key == NO_KEY:
         finish(server, execution, CANCELLED)
+
+
+def drop(server, execution):
+    execution.state = DROPPED
+    execution.finished_at = server.now
+
+
+def end_grace(server):
+    """Ends everything that is queued, running or open; nothing starts in the slots that become free."""
+    server.grace_over = True
+    for execution in in_state(server, QUEUED):
+        drop(server, execution)
+    for execution in in_state(server, RUNNING):
+        finish(server, execution, CANCELLED)
+    for request in open_requests(server):
+        end_request(server, request, CANCELLED)

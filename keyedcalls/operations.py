@@ -1,12 +1,19 @@
-"""The calls on a server, each with its errors in their order. Each gives the numbers of its answer."""
+"""The calls that do something with a server, each with its errors in their order; the others are in keyedcalls.views.
+
+Each gives the numbers of its answer.
+"""
 
 from keyedcalls.arrival import arrive
-from keyedcalls.codes import CANCELLED, NOTHING_THERE, NOT_OPEN, OK, OUTSIDE, TOO_MANY, UNKNOWN
+from keyedcalls.codes import CANCELLED, NOT_OPEN, OUTSIDE, TOO_MANY, UNKNOWN
 from keyedcalls.events import advance_to, happen, upcoming_event
-from keyedcalls.executions import leave, starting_order
+from keyedcalls.executions import end_grace, fill_slots, leave
+from keyedcalls.preview import arrive_on_trial
 from keyedcalls.programs import is_program
-from keyedcalls.state import Ask, Client, FINISHED, Method, RUNNING, Server, waiting_requests
+from keyedcalls.state import Ask, Client, Method, QUEUED, RUNNING, Server, in_state
+from keyedcalls.views import look, shown_status
 
+MOST_LIMIT = 8
+MOST_ROLES = 15
 MOST_METHODS = 6
 MOST_CLIENTS = 8
 MOST_REQUESTS = 60
@@ -16,15 +23,19 @@ MOST_PAYLOAD = 8
 def create(numbers):
     """The new server, None if an argument is outside its limits."""
     limit, queue_limit, discipline, shedding, lifetime = numbers
-    if limit < 1 or limit > 8 or queue_limit > 16 or discipline > 2 or shedding > 1 or lifetime > 100000:
+    if not is_limit(limit) or queue_limit > 16 or discipline > 2 or shedding > 1 or lifetime > 100000:
         return None
     return Server(limit, queue_limit, discipline, shedding, lifetime)
+
+
+def is_limit(limit):
+    return 1 <= limit <= MOST_LIMIT
 
 
 def add_method(server, numbers):
     cost, roles = numbers[:2]
     program = numbers[2:]
-    if not is_program(program, len(server.methods)) or cost > 100 or roles > 15:
+    if not is_program(program, len(server.methods)) or cost > 100 or roles > MOST_ROLES:
         return [OUTSIDE]
     if len(server.methods) == MOST_METHODS:
         return [TOO_MANY]
@@ -34,7 +45,7 @@ def add_method(server, numbers):
 
 def add_client(server, numbers):
     token, roles, capacity, refill = numbers
-    if token > 65535 or roles > 15 or capacity > 1000 or refill > 1000:
+    if token > 65535 or roles > MOST_ROLES or capacity > 1000 or refill > 1000:
         return [OUTSIDE]
     if len(server.clients) == MOST_CLIENTS:
         return [TOO_MANY]
@@ -51,6 +62,14 @@ def send_request(server, numbers):
     return [request.number, shown_status(request)]
 
 
+def preview_request(server, numbers):
+    ask = Ask(numbers)
+    error = request_error(server, ask)
+    if error is not None:
+        return [error]
+    return [shown_status(arrive_on_trial(server, ask))]
+
+
 def request_error(server, ask):
     if ask.client >= len(server.clients):
         return UNKNOWN
@@ -61,10 +80,6 @@ def request_error(server, ask):
     if len(server.requests) == MOST_REQUESTS:
         return TOO_MANY
     return None
-
-
-def shown_status(request):
-    return 0 if request.status is None else request.status + 1
 
 
 def cancel(server, numbers):
@@ -86,13 +101,6 @@ def advance(server, numbers):
     return [fired, server.now]
 
 
-def next_event(server, numbers):
-    event = upcoming_event(server)
-    if event is None:
-        return [NOTHING_THERE]
-    return list(event)
-
-
 def run(server, numbers):
     count = numbers[0]
     if count > 40:
@@ -104,52 +112,39 @@ def run(server, numbers):
     return [server.now]
 
 
-def request_info(server, numbers):
-    number = numbers[0]
-    if number >= len(server.requests):
+def shutdown(server, numbers):
+    grace = numbers[0]
+    if grace > 100000:
+        return [OUTSIDE]
+    if server.grace_end is not None:
+        return [NOT_OPEN]
+    counts = [len(in_state(server, RUNNING)), len(in_state(server, QUEUED))]
+    server.grace_end = server.now + grace
+    if grace == 0:
+        end_grace(server)
+    return counts
+
+
+def set_limit(server, numbers):
+    limit = numbers[0]
+    if not is_limit(limit):
+        return [OUTSIDE]
+    old_limit = server.limit
+    server.limit = limit
+    fill_slots(server)
+    return [old_limit]
+
+
+def set_roles(server, numbers):
+    number, roles = numbers
+    if number >= len(server.clients):
         return [UNKNOWN]
-    request = server.requests[number]
-    execution = 0 if request.execution is None else request.execution + 1
-    return [
-        shown_status(request), request.client, request.arrived_at, request.deadline,
-        execution, request.joined, request.finished_at, request.retry_delay,
-    ]
-
-
-def response(server, numbers):
-    number = numbers[0]
-    if number >= len(server.requests):
-        return [UNKNOWN]
-    request = server.requests[number]
-    if request.status != OK:
-        return [NOTHING_THERE]
-    emitted = server.executions[request.execution].emitted
-    return [len(emitted)] + emitted
-
-
-def execution_info(server, numbers):
-    number = numbers[0]
-    if number >= len(server.executions):
-        return [UNKNOWN]
-    execution = server.executions[number]
-    return [
-        execution.client, execution.key, execution.method, execution.state, state_value(execution),
-        execution.started_at, execution.finished_at, execution.executed,
-        len(waiting_requests(server, execution)), len(execution.emitted),
-    ]
-
-
-def state_value(execution):
-    if execution.state == RUNNING:
-        return execution.wakes_at
-    if execution.state == FINISHED:
-        return execution.status
-    return 0
-
-
-def list_queue(server, numbers):
-    order = starting_order(server)
-    return [len(order)] + [execution.number for execution in order]
+    if roles > MOST_ROLES:
+        return [OUTSIDE]
+    client = server.clients[number]
+    old_roles = client.roles
+    client.roles = roles
+    return [old_roles]
 
 
 OPERATIONS = {
@@ -158,16 +153,17 @@ OPERATIONS = {
     3: send_request,
     4: cancel,
     5: advance,
-    6: next_event,
     7: run,
-    8: request_info,
-    9: response,
-    10: execution_info,
-    11: list_queue,
+    16: shutdown,
+    17: set_limit,
+    18: set_roles,
+    20: preview_request,
 }
 
 
 def perform(server, number, numbers):
     """The answer of the call with this number, which is not create, on an existing server."""
-    operation = OPERATIONS[number]
-    return operation(server, numbers)
+    if number in OPERATIONS:
+        operation = OPERATIONS[number]
+        return operation(server, numbers)
+    return look(server, number, numbers)

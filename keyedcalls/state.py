@@ -6,6 +6,7 @@ FINISHED = 2
 DROPPED = 3
 
 REGISTER_COUNT = 4
+NO_KEY = 0
 
 
 class Server:
@@ -24,7 +25,9 @@ class Server:
         self.requests = []
         self.registers = [0] * REGISTER_COUNT
         self.average = 0
+        # The end of the grace period is known from shutdown on; it is over once it has ended.
         self.grace_end = None
+        self.grace_over = False
 
 
 class Method:
@@ -133,6 +136,8 @@ def estimated_wait(server):
 
 def shared_execution(server, client, key):
     """The execution that a request of this client with this key would join, None if there is none."""
+    if key == NO_KEY:
+        return None
     shared = None
     for execution in server.executions:
         if execution.client == client and execution.key == key and can_be_joined(server, execution):

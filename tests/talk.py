@@ -61,6 +61,55 @@ def list_queue():
     return call(11)
 
 
+def list_running():
+    return call(12)
+
+
+def registers():
+    return call(13)
+
+
+def quota(client=0):
+    return call(14, client)
+
+
+def find_key(client, key):
+    return call(15, client, key)
+
+
+def shutdown(grace):
+    return call(16, grace)
+
+
+def set_limit(limit):
+    return call(17, limit)
+
+
+def set_roles(client, roles):
+    return call(18, client, roles)
+
+
+def estimate():
+    return call(19)
+
+
+def preview(client=0, token=7, method=0, timeout=1000, key=0, payload=()):
+    return call(20, client, token, method, timeout, key, list(payload))
+
+
+def statistics():
+    return call(21)
+
+
+def status():
+    return call(22)
+
+
+def rows(calls):
+    """The calls as rows for TalkCase.check whose answers are not looked at."""
+    return [(one,) for one in calls]
+
+
 def flat(calls):
     return [number for row in calls for number in row]
 
@@ -77,8 +126,9 @@ def replies(calls):
 
 
 def view(requests, executions):
-    """Calls that show what a server holds: its clock, its queue and this many requests and executions."""
-    calls = [run(0), next_event(), list_queue()]
+    """Calls that show what a server holds, with its first two clients and this many requests and executions."""
+    calls = [status(), statistics(), estimate(), registers(), quota(0), quota(1), next_event(), list_queue(), list_running()]
+    calls += [find_key(0, key) for key in (5, 6)]
     calls += [request_info(number) for number in range(requests)]
     calls += [response(number) for number in range(requests)]
     calls += [execution_info(number) for number in range(executions)]

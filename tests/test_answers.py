@@ -1,4 +1,4 @@
-"""The flat list of calls and of answers, and the document's example as far as it needs these twelve calls."""
+"""The flat list of calls and of answers, and the document's example."""
 
 import copy
 import pathlib
@@ -8,7 +8,7 @@ import unittest
 
 from keyedcalls.server import answers
 from talk import (TalkCase, add_client, add_method, advance, cancel, create, execution_info, flat, list_queue, next_event,
-                  request, request_info, response, run)
+                  quota, registers, request, request_info, response, run, shutdown)
 
 TOP = pathlib.Path(__file__).resolve().parent.parent
 
@@ -26,21 +26,25 @@ class Example(TalkCase):
             (request(0, 77, 0, 100, 5, [3]), 3, 4),
             (request(0, 77, 0, 40, 0, [1]), 4, 0),
             (list_queue(), 1, 1),
+            (quota(0), 0, 2, 10),
             (request(0, 77, 0, 100, 0, []), 5, 9),
             (request_info(5), 9, 0, 0, 100, 0, 0, 0, 100),
             (advance(40), 1, 40),
             (execution_info(1), 0, 0, 0, 3, 0, 0, 40, 0, 0, 0),
             (advance(10), 1, 50),
             (response(2), 1, 7),
+            (registers(), 4, 0, 0, 7, 0),
             (request(0, 77, 0, 100, 5, [3, 4]), 6, 1),
             (request(0, 77, 1, 100, 0, [2]), 7, 0),
             (run(1), 100),
             (request_info(7), 10, 0, 50, 150, 3, 0, 100, 0),
+            (shutdown(0), 0, 0),
+            (request(0, 77, 0, 9, 0, []), 8, 101),
         )
 
 
 class FlatLists(unittest.TestCase):
-    # Every one of the twelve calls, some of them refused, and a second server in the middle.
+    # Every one of the 23 calls, some of them refused, and a second server in the middle.
     calls = [
         0, 5, 1, 1, 0, 0, 1000, 0,
         1, 6, 0, 0, 3, 1, 0, 50, 0,
@@ -58,6 +62,23 @@ class FlatLists(unittest.TestCase):
         0, 5, 0, 1, 0, 0, 1000, 0,
         8, 1, 1, 0,
         10, 1, 0, 0,
+        12, 0, 0,
+        13, 0, 0,
+        14, 1, 0, 0,
+        14, 1, 1, 0,
+        15, 2, 0, 6, 0,
+        15, 2, 0, 0, 0,
+        17, 1, 8, 0,
+        17, 1, 9, 0,
+        18, 2, 0, 16, 0,
+        18, 2, 0, 15, 0,
+        19, 0, 0,
+        20, 7, 0, 7, 0, 100, 0, 3, 4, 0,
+        20, 5, 0, 8, 0, 100, 6, 0,
+        21, 0, 0,
+        16, 1, 9, 0,
+        16, 1, 9, 0,
+        22, 0, 0,
         7, 1, 3, 0,
         0, 5, 2, 0, 1, 1, 0, 0,
         11, 0, 0,
@@ -81,7 +102,24 @@ class FlatLists(unittest.TestCase):
         1, -22,
         8, 2, 0, 0, 100, 2, 0, 50, 0,
         10, 0, 0, 0, 2, 0, 0, 50, 2, 0, 1,
-        1, 100,
+        2, 1, 1,
+        5, 4, 0, 7, 0, 0,
+        3, 9000, 9, 0,
+        1, -2,
+        3, 1, 1, 100,
+        1, -33,
+        1, 1,
+        1, -22,
+        1, -22,
+        1, 0,
+        2, 0, 50,
+        1, 0,
+        1, 17,
+        7, 2, 1, 0, 0, 0, 0, 2,
+        2, 1, 0,
+        1, -16,
+        6, 50, 1, 0, 1, 1, 1,
+        1, 59,
         1, 0,
         1, 0,
         1, -2,
@@ -90,6 +128,15 @@ class FlatLists(unittest.TestCase):
 
     def test_a_count_stands_ahead_of_each_answer_and_a_refusal_is_its_code_alone(self):
         self.assertEqual(answers(self.calls), self.wanted)
+
+    def test_they_hold_every_call(self):
+        numbers = []
+        position = 0
+        while position < len(self.calls):
+            numbers.append(self.calls[position])
+            position += self.calls[position + 1] + 3
+        self.assertEqual(sorted(set(numbers)), list(range(23)))
+        self.assertLessEqual(len(numbers), 60)
 
     def test_the_answers_are_a_list_of_whole_numbers(self):
         found = answers(self.calls)
@@ -112,6 +159,9 @@ class FlatLists(unittest.TestCase):
     def test_answers_do_not_share_what_the_server_holds(self):
         calls = flat([create(), add_method(0, 0, [1, 4]), add_client(), request(), response(0), response(0)])
         self.assertEqual(answers(calls)[-6:], [2, 1, 4, 2, 1, 4])
+        calls = flat([create(), add_method(0, 0, [3, 0]), add_client(), registers(), registers(), request(payload=[4]),
+                      registers()])
+        self.assertEqual(answers(calls)[6:], [5, 4, 0, 0, 0, 0] * 2 + [2, 0, 1] + [5, 4, 4, 0, 0, 0])
 
     def test_one_call_alone(self):
         self.assertEqual(answers([0, 5, 1, 0, 0, 0, 0, 0]), [1, 0])

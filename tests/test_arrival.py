@@ -1,45 +1,43 @@
 """The arrival of a request: each of the points 1 to 9, also where a later one would decide otherwise."""
 
-import unittest
-
-from keyedcalls.operations import create as new_server
-from keyedcalls.operations import perform
-from talk import (TalkCase, add_client, add_method, advance, cancel, create, execution_info, list_queue, replies,
-                  request, request_info, run)
+from talk import (TalkCase, add_client, add_method, advance, cancel, create, execution_info, list_queue, quota, replies,
+                  request, request_info, rows, run, shutdown)
 
 WAITS = [0, 80]
 
 
-def arrive(server, *numbers):
-    return perform(server, 3, list(numbers))
+class AfterShutdown(TalkCase):
+    """Point 1."""
 
-
-class AfterShutdown(unittest.TestCase):
-    """Point 1. No call of these twelve shuts a server down, so its state is set by hand."""
-
-    def setUp(self):
-        self.server = new_server([1, 16, 0, 0, 1000])
-        perform(self.server, 1, [0, 1] + WAITS)
-        perform(self.server, 2, [7, 1, 0, 0])
-        arrive(self.server, 0, 7, 0, 9, 5)
+    busy = [create(limit=1), add_method(0, 1, WAITS), add_client(roles=1), add_client(roles=0), request(key=5)]
 
     def test_every_request_is_refused(self):
-        self.server.grace_end = 0
-        self.assertEqual(arrive(self.server, 0, 7, 0, 9, 0), [1, 101])
-        self.assertEqual(perform(self.server, 8, [1]), [101, 0, 0, 9, 0, 0, 0, 0])
-        self.assertEqual(len(self.server.executions), 1)
+        for grace in (0, 70):
+            self.check(
+                *rows(self.busy), (shutdown(grace), 1, 0), (request(timeout=9), 1, 101), (advance(3), 0, 3),
+                (request(timeout=9), 2, 101), (request_info(1), 101, 0, 0, 9, 0, 0, 0, 0),
+                (request_info(2), 101, 0, 3, 12, 0, 0, 3, 0), (execution_info(1), -2), (quota(0), 1000000, 1000, 0),
+            )
 
     def test_ahead_of_the_other_points(self):
-        self.server.grace_end = 70
-        self.assertEqual(arrive(self.server, 0, 8, 0, 9, 0), [1, 101])
-        self.assertEqual(arrive(self.server, 0, 7, 1, 9, 0), [2, 101])
-        self.assertEqual(arrive(self.server, 0, 7, 0, 9, 5), [3, 101])
-        self.assertEqual(arrive(self.server, 0, 7, 0, 9, 5, 1), [4, 101])
+        for grace in (0, 70):
+            self.check(
+                *rows(self.busy), (shutdown(grace), 1, 0), (request(token=8), 1, 101), (request(method=1), 2, 101),
+                (request(client=1), 3, 101), (request(key=5), 4, 101), (request(key=5, payload=[1]), 5, 101),
+                (request_info(4), 101, 0, 0, 1000, 0, 0, 0, 0),
+            )
+
+    def test_ahead_of_quota_full_queue_and_shedding(self):
+        for limit in (1, 2):
+            calls = [create(limit=limit, queue_limit=0, shedding=1), add_method(1, 0, WAITS), add_client(capacity=2, refill=1),
+                     request(), advance(80), request()]
+            self.check(*rows(calls), (shutdown(70), 1, 0), (request(timeout=1), 2, 101),
+                       (request_info(2), 101, 0, 80, 81, 0, 0, 80, 0))
 
     def test_wrong_arguments_are_still_errors(self):
-        self.server.grace_end = 70
-        self.assertEqual(arrive(self.server, 1, 7, 0, 9, 0), [-2])
-        self.assertEqual(arrive(self.server, 0, 7, 0, 0, 0), [-22])
+        for grace in (0, 70):
+            self.check(*rows(self.busy), (shutdown(grace), 1, 0), (request(client=2), -2), (request(timeout=0), -22),
+                       (request(payload=[1001]), -22), (request(), 1, 101))
 
 
 class Points(TalkCase):
@@ -98,13 +96,13 @@ class Points(TalkCase):
 
     def test_4_every_required_role(self):
         for required in range(16):
-            rows = [(create(limit=8), 0), (add_method(0, required, []), 0)]
+            steps = [(create(limit=8), 0), (add_method(0, required, []), 0)]
             for client in range(8):
                 held = (client * 5 + required) % 16
-                rows.append((add_client(roles=held), client))
+                steps.append((add_client(roles=held), client))
                 has_all = all(held // bit % 2 == 1 for bit in (1, 2, 4, 8) if required // bit % 2 == 1)
-                rows.append((request(client), client, 1 if has_all else 8))
-            self.check(*rows)
+                steps.append((request(client), client, 1 if has_all else 8))
+            self.check(*steps)
         self.check(
             (create(), 0),
             (add_method(0, 5, []), 0),
@@ -225,13 +223,13 @@ class Points(TalkCase):
     def test_7_slots_and_queue_full(self):
         for limit in (1, 2, 8):
             for queue_limit in (0, 1, 3, 16):
-                rows = [(create(limit=limit, queue_limit=queue_limit), 0), (add_method(0, 0, WAITS), 0), (add_client(), 0)]
+                steps = [(create(limit=limit, queue_limit=queue_limit), 0), (add_method(0, 0, WAITS), 0), (add_client(), 0)]
                 taken = limit + queue_limit
-                rows += [(request(), number, 0) for number in range(taken)]
-                rows += [(request(), taken, 101), (request(), taken + 1, 101)]
-                rows += [(request_info(taken), 101, 0, 0, 1000, 0, 0, 0, 0)]
-                rows += [(cancel(0), 0), (request(), taken + 2, 0), (request(), taken + 3, 101)]
-                self.check(*rows)
+                steps += [(request(), number, 0) for number in range(taken)]
+                steps += [(request(), taken, 101), (request(), taken + 1, 101)]
+                steps += [(request_info(taken), 101, 0, 0, 1000, 0, 0, 0, 0)]
+                steps += [(cancel(0), 0), (request(), taken + 2, 0), (request(), taken + 3, 101)]
+                self.check(*steps)
 
     def test_7_without_shedding_whatever_the_timeout(self):
         self.check(

@@ -1,14 +1,10 @@
 """advance, run and next_event: the order of events, the clock, and the edges of their arguments."""
 
 from talk import (TalkCase, add_client, add_method, advance, cancel, create, execution_info, list_queue, next_event,
-                  request, request_info, response, run, view)
+                  request, request_info, response, rows, run, view)
 
 GREATEST = 4294967295
 BUSY = [create(), add_method(0, 0, [0, 50, 3, 0]), add_client(), request(timeout=900), request(timeout=40), request()]
-
-
-def rows(calls):
-    return [(row,) for row in calls]
 
 
 class Advance(TalkCase):

@@ -128,6 +128,38 @@ class Form(unittest.TestCase):
             for name in free:
                 del drawn[name]
 
+    def test_no_parameter_and_no_local_is_called_like_a_class_or_an_import(self):
+        for file in files():
+            tree = tree_of(file)
+            taken = {node.name for node in tree.body if isinstance(node, ast.ClassDef)}
+            for node in tree.body:
+                if isinstance(node, ast.ImportFrom):
+                    taken |= {part.name for part in node.names}
+            for node in ast.walk(tree):
+                at = f"{file.name}: {getattr(node, 'lineno', '')}"
+                if isinstance(node, ast.arg):
+                    self.assertNotIn(node.arg, taken, at)
+                if isinstance(node, ast.Name) and isinstance(node.ctx, ast.Store):
+                    self.assertNotIn(node.id, taken, at)
+
+    def test_a_file_s_top_holds_plain_values_and_tables_of_its_own_functions(self):
+        for file in files():
+            bound = []
+            for node in tree_of(file).body:
+                at = f"{file.name}: {node.lineno}"
+                if isinstance(node, (ast.FunctionDef, ast.ClassDef)):
+                    bound.append(node.name)
+                elif isinstance(node, ast.Assign):
+                    for part in ast.walk(node.value):
+                        plain = (ast.Constant, ast.Tuple, ast.Dict, ast.UnaryOp, ast.USub, ast.Load, ast.Name)
+                        self.assertIsInstance(part, plain, at)
+                        self.assertTrue(not isinstance(part, ast.Name) or part.id in bound, at)
+                    bound.append(node.targets[0].id)
+                else:
+                    text = isinstance(node, ast.Expr) and isinstance(node.value, ast.Constant)
+                    self.assertTrue(text or isinstance(node, ast.ImportFrom), at)
+            self.assertEqual(len(bound), len(set(bound)), file.name)
+
     def test_the_interface_stands_in_its_file(self):
         defined = {}
         for file in files():

@@ -1,21 +1,28 @@
 """create, add_method and add_client: ranges, errors and their order, and what they leave as it was."""
 
 from keyedcalls.programs import is_program
-from talk import (TalkCase, add_client, add_method, advance, call, cancel, create, execution_info, list_queue,
-                  next_event, replies, request, request_info, response, run, view)
+from talk import (TalkCase, add_client, add_method, advance, call, cancel, create, estimate, execution_info, find_key,
+                  list_queue, list_running, next_event, preview, quota, registers, replies, request, request_info, response,
+                  run, set_limit, set_roles, shutdown, statistics, status, view)
 
 GREATEST = 4294967295
 EACH_BUT_CREATE = [
     add_method(0, 0, []), add_client(), request(), cancel(0), advance(0), next_event(), run(0),
-    request_info(0), response(0), execution_info(0), list_queue(),
+    request_info(0), response(0), execution_info(0), list_queue(), list_running(), registers(), quota(0), find_key(0, 5),
+    shutdown(0), set_limit(1), set_roles(0, 0), estimate(), preview(), statistics(), status(),
 ]
 WRONG_ANYWHERE = [
     add_method(101, 16, [9]), add_client(65536, 16, 1001, 1001), request(9, 0, 9, 0, 0, [1001]), cancel(GREATEST),
     advance(1000001), run(41), request_info(GREATEST), response(GREATEST), execution_info(GREATEST),
+    quota(GREATEST), find_key(GREATEST, 0), shutdown(100001), set_limit(0), set_limit(9), set_roles(GREATEST, 16),
+    preview(9, 0, 9, 0, 0, [1001]),
 ]
 
 
 class NoServer(TalkCase):
+    def test_these_are_all_of_them(self):
+        self.assertEqual([one[0] for one in EACH_BUT_CREATE], list(range(1, 23)))
+
     def test_every_call_but_create_is_refused(self):
         for one in EACH_BUT_CREATE + WRONG_ANYWHERE:
             self.check((one, -11))
